@@ -42,8 +42,8 @@ func Parse(s string) ([32]byte, api.Errno) {
 	}
 	var h [32]byte
 	for i := range h {
-		high, highOK := digitValue(s[2*i])
-		low, lowOK := digitValue(s[2*i+1])
+		high, highOK := valueOf(s[2*i])
+		low, lowOK := valueOf(s[2*i+1])
 		if !highOK || !lowOK {
 			return [32]byte{}, api.ErrForm
 		}
@@ -52,7 +52,8 @@ func Parse(s string) ([32]byte, api.Errno) {
 	return h, api.OK
 }
 
-func digitValue(c byte) (byte, bool) {
+// DigitValue is the value of a digit; false, if c is none.
+func DigitValue(c byte) (byte, bool) {
 	digitsOnce.Do(makeDigitValues)
 	if c > lastDigit || digitValues[c] == 0 {
 		return 0, false
@@ -61,7 +62,20 @@ func digitValue(c byte) (byte, bool) {
 }
 
 func makeDigitValues() {
-	for i := range len(digits) {
-		digitValues[digits[i]] = byte(i + 1)
+	for c := range digitValues {
+		if value, ok := valueOf(byte(c)); ok {
+			digitValues[c] = value + 1
+		}
 	}
+}
+
+// valueOf is what DigitValue tells, of nothing but c: so Parse leans on nothing that was made before.
+func valueOf(c byte) (byte, bool) {
+	switch {
+	case c >= '0' && c <= '9':
+		return c - '0', true
+	case c >= 'a' && c <= lastDigit:
+		return c - 'a' + 10, true
+	}
+	return 0, false
 }

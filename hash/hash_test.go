@@ -124,6 +124,21 @@ func TestParseOfWrongLengths(t *testing.T) {
 	}
 }
 
+// 2.1: a single digit has the value that Parse takes it for, and what Parse takes for none has none.
+func TestDigitValue(t *testing.T) {
+	for c := range 256 {
+		want := strings.IndexByte("0123456789abcdef", byte(c))
+		value, ok := hash.DigitValue(byte(c))
+		if ok != (want >= 0) || ok && int(value) != want || !ok && value != 0 {
+			t.Errorf("DigitValue(%q): %d, %v", byte(c), value, ok)
+		}
+		h, why := hash.Parse(strings.Repeat("0", 63) + string([]byte{byte(c)}))
+		if (why == api.OK) != ok || h[31] != value {
+			t.Errorf("DigitValue(%q): %d, %v, but Parse: %x, error %d", byte(c), value, ok, h, why)
+		}
+	}
+}
+
 // 2.2: what was handed in, and what was answered, stays what it was, whatever is asked behind it.
 func TestNothingIsKept(t *testing.T) {
 	h := hash.Sum("abc")
@@ -149,7 +164,8 @@ func TestMayBeAskedTogether(t *testing.T) {
 	for i := range right {
 		all.Go(func() {
 			h, why := hash.Parse(hexOfAbc)
-			right[i] = why == api.OK && h == hash.Sum("abc") && hash.Hex(h) == hexOfAbc
+			value, ok := hash.DigitValue('f')
+			right[i] = why == api.OK && h == hash.Sum("abc") && hash.Hex(h) == hexOfAbc && ok && value == 15
 		})
 	}
 	all.Wait()
