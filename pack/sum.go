@@ -4,8 +4,7 @@ import "sync/atomic"
 
 const (
 	polynomial = 2168537515 // of CRC-32Q: 814141ab
-	topBit     = 1 << 31
-	pieceSize  = 1 << 9 // bytes that are taken into a sum at a time
+	pieceSize  = 1 << 9     // bytes that are taken into a sum at a time
 )
 
 // running is a sum on its way through a text: of the bytes taken so far.
@@ -41,9 +40,7 @@ func withByte(sum uint32, b byte) uint32 {
 	return sum
 }
 
+// doubled leaves no choice to the processor, which would guess every second one wrongly: -(sum >> 31) has all bits or none.
 func doubled(sum uint32) uint32 {
-	if sum&topBit != 0 {
-		return sum<<1 ^ polynomial
-	}
-	return sum << 1
+	return sum<<1 ^ polynomial&-(sum>>31)
 }

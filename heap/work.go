@@ -1,0 +1,172 @@
+package heap
+
+import (
+	"cmp"
+	"slices"
+
+	"cambium/api"
+	"cambium/node"
+)
+
+const firstNum = 2 // the least block that a cell can have
+
+// atWork is a heap at work, its cells by number.
+type atWork struct {
+	size  uint32
+	cells []*cell
+}
+
+// takenUp is a heap at work, if it is right.
+func takenUp(h api.Heap) (atWork, api.Errno) {
+	w := atWork{size: h.Size}
+	if h.Size < api.MinBlocks || h.Size > api.MaxBlocks || !w.takeCells(h.Cells) || !w.takeLeads() {
+		return atWork{}, api.ErrState
+	}
+	for _, c := range w.cells {
+		if !c.rightRefs() {
+			return atWork{}, api.ErrState
+		}
+	}
+	return w, api.OK
+}
+
+// takeCells takes cells up; false, if one has a number or data that are not right.
+func (w *atWork) takeCells(cells []api.Cell) bool {
+	for i, c := range cells {
+		if c.Num < firstNum || c.Num >= w.size || i > 0 && c.Num <= cells[i-1].Num {
+			return false
+		}
+		n, why := node.Decode(c.Data)
+		if why != api.OK {
+			return false
+		}
+		w.cells = append(w.cells, &cell{Cell: c, node: n})
+	}
+	return true
+}
+
+// takeLeads finds what is below each cell; false, if something there is not what is named.
+func (w *atWork) takeLeads() bool {
+	for _, c := range w.cells {
+		below, why := w.below(c.node)
+		if why != api.OK {
+			return false
+		}
+		c.below = below
+	}
+	return true
+}
+
+// below are the cells to which a node leads, each asked for by it.
+func (w *atWork) below(n api.Node) ([]*cell, api.Errno) {
+	var cells []*cell
+	why := api.OK
+	hashes := namedHashes(n)
+	for i, num := range node.Kids(n) {
+		c, none := w.find(num)
+		if none != api.OK {
+			return nil, none
+		}
+		if c.ask() != hashes[i] {
+			why = api.ErrBad // a later one that is not there is told instead
+		}
+		cells = append(cells, c)
+	}
+	return cells, why
+}
+
+// namedHashes has for each of a node's kids the hash with which it is named.
+func namedHashes(n api.Node) [][32]byte {
+	var hashes [][32]byte
+	for _, k := range n.Kids {
+		hashes = append(hashes, k.Hash)
+	}
+	for _, v := range n.Volumes {
+		if v.Root != 0 {
+			hashes = append(hashes, v.Hash)
+		}
+	}
+	return hashes
+}
+
+func (w *atWork) find(num uint32) (*cell, api.Errno) {
+	at, found := slices.BinarySearchFunc(w.cells, num, func(c *cell, num uint32) int {
+		return cmp.Compare(c.Num, num)
+	})
+	if !found {
+		return nil, api.ErrNone
+	}
+	return w.cells[at], api.OK
+}
+
+// put finds the cell that has a node, or makes it; with an error the heap at work is spent.
+func (w *atWork) put(n api.Node) (*cell, api.Errno) {
+	data, why := node.Encode(n)
+	if why != api.OK {
+		return nil, why
+	}
+	below, why := w.below(n)
+	if why != api.OK {
+		return nil, why
+	}
+	if c := w.withData(data); c != nil {
+		return c, api.OK
+	}
+	at := w.firstGap()
+	c := &cell{Cell: api.Cell{Num: numAt(at), Data: data}}
+	if c.Num == w.size {
+		return nil, api.ErrFull
+	}
+	for _, b := range below {
+		if why := b.hold(); why != api.OK {
+			return nil, why
+		}
+	}
+	w.cells = slices.Insert(w.cells, at, c)
+	return c, api.OK
+}
+
+// withData is the first cell that has data; nil, if there is none.
+func (w *atWork) withData(data string) *cell {
+	for _, c := range w.cells {
+		if c.Data == data {
+			return c
+		}
+	}
+	return nil
+}
+
+// firstGap is where among the cells the one of the least free number would stand.
+func (w *atWork) firstGap() int {
+	for i, c := range w.cells {
+		if c.Num != numAt(i) {
+			return i
+		}
+	}
+	return len(w.cells)
+}
+
+// numAt is a cell's number, if none below it is free.
+func numAt(i int) uint32 {
+	return uint32(i) + firstNum
+}
+
+// sweep goes through the cells once: one that loses its last Ref on the way is no more by that, so that none is left without.
+func (w *atWork) sweep() {
+	for _, c := range w.cells {
+		if c.Refs == 0 && !c.gone {
+			c.gone = true
+			letGo(c.below...)
+		}
+	}
+}
+
+func (w *atWork) plain() api.Heap {
+	h := api.Heap{Size: w.size}
+	for _, c := range w.cells {
+		if !c.gone {
+			h.Cells = append(h.Cells, c.Cell)
+		}
+	}
+	return h
+}
