@@ -364,6 +364,10 @@ func calls() []call {
 		{"Put of what is there", put(leaf("A"))},
 		{"Put of nothing", put(api.Node{})},
 		{"Put of what leads nowhere", put(branch(api.Kid{Num: 3}))},
+		{"Fill with nothing", func(h api.Heap) api.Heap {
+			after, _ := heap.Fill(h, filled(nil, nil))
+			return after
+		}},
 		{"Hold", at(heap.Hold, 2)},
 		{"Hold of none", at(heap.Hold, 3)},
 		{"Drop", at(heap.Drop, 15)},

@@ -99,58 +99,6 @@ func (w *atWork) find(num uint32) (*cell, api.Errno) {
 	return w.cells[at], api.OK
 }
 
-// put finds the cell that has a node, or makes it; with an error the heap at work is spent.
-func (w *atWork) put(n api.Node) (*cell, api.Errno) {
-	data, why := node.Encode(n)
-	if why != api.OK {
-		return nil, why
-	}
-	below, why := w.below(n)
-	if why != api.OK {
-		return nil, why
-	}
-	if c := w.withData(data); c != nil {
-		return c, api.OK
-	}
-	at := w.firstGap()
-	c := &cell{Cell: api.Cell{Num: numAt(at), Data: data}}
-	if c.Num == w.size {
-		return nil, api.ErrFull
-	}
-	for _, b := range below {
-		if why := b.hold(); why != api.OK {
-			return nil, why
-		}
-	}
-	w.cells = slices.Insert(w.cells, at, c)
-	return c, api.OK
-}
-
-// withData is the first cell that has data; nil, if there is none.
-func (w *atWork) withData(data string) *cell {
-	for _, c := range w.cells {
-		if c.Data == data {
-			return c
-		}
-	}
-	return nil
-}
-
-// firstGap is where among the cells the one of the least free number would stand.
-func (w *atWork) firstGap() int {
-	for i, c := range w.cells {
-		if c.Num != numAt(i) {
-			return i
-		}
-	}
-	return len(w.cells)
-}
-
-// numAt is a cell's number, if none below it is free.
-func numAt(i int) uint32 {
-	return uint32(i) + firstNum
-}
-
 // sweep goes through the cells once: one that loses its last Ref on the way is no more by that, so that none is left without.
 func (w *atWork) sweep() {
 	for _, c := range w.cells {
