@@ -44,6 +44,15 @@ func (w atWork) whyNotWritten(num uint32, data string) api.Errno {
 	return api.OK
 }
 
+// write lets a block wait for its place, even if the power goes with it: a crash may keep it.
+func (w *atWork) write(b api.Block) api.Errno {
+	if why := w.whyNotWritten(b.Num, b.Data); why != api.OK {
+		return why
+	}
+	w.Waits = append(w.Waits, api.Block{Num: b.Num, Data: cut(b.Data)})
+	return w.burn()
+}
+
 // burn is what the fuse says to one more thing that is done.
 func (w *atWork) burn() api.Errno {
 	switch {

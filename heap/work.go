@@ -61,32 +61,17 @@ func (w *atWork) takeLeads() bool {
 func (w *atWork) below(n api.Node) ([]*cell, api.Errno) {
 	var cells []*cell
 	why := api.OK
-	hashes := namedHashes(n)
-	for i, num := range node.Kids(n) {
-		c, none := w.find(num)
+	for _, k := range node.Named(n) {
+		c, none := w.find(k.Num)
 		if none != api.OK {
 			return nil, none
 		}
-		if c.ask() != hashes[i] {
+		if c.ask() != k.Hash {
 			why = api.ErrBad // a later one that is not there is told instead
 		}
 		cells = append(cells, c)
 	}
 	return cells, why
-}
-
-// namedHashes has for each of a node's kids the hash with which it is named.
-func namedHashes(n api.Node) [][32]byte {
-	var hashes [][32]byte
-	for _, k := range n.Kids {
-		hashes = append(hashes, k.Hash)
-	}
-	for _, v := range n.Volumes {
-		if v.Root != 0 {
-			hashes = append(hashes, v.Hash)
-		}
-	}
-	return hashes
 }
 
 func (w *atWork) find(num uint32) (*cell, api.Errno) {

@@ -334,3 +334,44 @@ func TestKids(t *testing.T) {
 		}
 	}
 }
+
+// 5.2: each of these is named with its Hash, and without a Key.
+func TestNamed(t *testing.T) {
+	a, b := api.Kid{Key: "a", Num: 7, Hash: someHash}, api.Kid{Key: "b", Num: 7, Hash: zeroTail}
+	v := []api.Volume{{Name: "v", Root: 9, Hash: someHash}, {Name: "w"}, {Name: "x", Root: 4}, {Name: "y", Root: 9, Hash: zeroTail}}
+	for _, x := range []struct {
+		n    api.Node
+		want []api.Kid
+	}{
+		{branch(a, b), []api.Kid{{Num: 7, Hash: someHash}, {Num: 7, Hash: zeroTail}}},
+		{table(v...), []api.Kid{{Num: 9, Hash: someHash}, {Num: 4}, {Num: 9, Hash: zeroTail}}},
+		{leaf("a", "1"), nil},
+		{api.Node{Kind: api.NodeCount, Kids: []api.Kid{a}, Volumes: v}, nil},
+	} {
+		got := node.Named(x.n)
+		if !slices.Equal(got, x.want) {
+			t.Errorf("Named: %v, not %v", got, x.want)
+		}
+		for i := range got {
+			got[i].Num = 77
+		}
+		if !slices.Equal(node.Named(x.n), x.want) {
+			t.Errorf("Named changed with an earlier answer")
+		}
+	}
+}
+
+// 5.1: any bytes are sealed as a node's are, if they are no more than a node may have.
+func TestSeal(t *testing.T) {
+	full := strings.Repeat("x", space)
+	for _, bytes := range []string{"", "\x00", "x", "\x00x\x00\x00", full[1:] + "\x00", full} {
+		if data, why := node.Seal(bytes); data != sealed(bytes) || why != api.OK {
+			t.Errorf("Seal of %q: %q, error %d", bytes, data, why)
+		}
+	}
+	for _, bytes := range []string{full + "x", full + "\x00", full + full} {
+		if data, why := node.Seal(bytes); data != "" || why != api.ErrLong {
+			t.Errorf("Seal of %d bytes: %q, error %d", len(bytes), data, why)
+		}
+	}
+}
