@@ -163,15 +163,7 @@ func TestNoRoom(t *testing.T) {
 func TestTooManyRefs(t *testing.T) {
 	h, table := sample(t)
 	b, s := volumes(t, h, table)[0], api.VolOp{Kind: api.VolOpSnap, Name: "n", From: "b"}
-	most := func(num uint32) api.Heap {
-		h := copied(h)
-		for i := range h.Cells {
-			if h.Cells[i].Num == num {
-				h.Cells[i].Refs = maxRefs
-			}
-		}
-		return h
-	}
+	most := func(num uint32) api.Heap { return withRefs(h, num, maxRefs) }
 	roots := most(b.Root)
 	answered(vol.Do(roots, table, s, 1)).wantRefused(t, "a root", roots, table, api.ErrRange)
 	answered(vol.Edit(roots, table, "c", []api.Change{{Key: "a", Has: true}})).wantRefused(t, "a root", roots, table, api.ErrRange)
@@ -189,11 +181,7 @@ func TestTooManyRefs(t *testing.T) {
 	if refused == 0 {
 		t.Error("no block below is led to by the changed tree")
 	}
-	fresh, root := built(t, copied(h), dirs.New())
-	for i := range fresh.Cells {
-		if fresh.Cells[i].Num == root.Num {
-			fresh.Cells[i].Refs = maxRefs
-		}
-	}
+	fresh, root := built(t, h, dirs.New())
+	fresh = withRefs(fresh, root.Num, maxRefs)
 	answered(vol.Do(fresh, table, api.VolOp{Kind: api.VolOpMake, Name: "n"}, 1)).wantRefused(t, "a new root", fresh, table, api.ErrRange)
 }

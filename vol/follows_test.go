@@ -252,7 +252,10 @@ func TestAsTheWordsSay(t *testing.T) {
 			for gen := range uint64(100) {
 				was, before := copied(h), maps.Clone(m)
 				free, _ := heap.Free(h)
+				again := x
 				a, why, need := x.step(m, h, table, gen)
+				unheld, _, _ := again.step(maps.Clone(before), withRefs(h, table.Num, 0), table, gen)
+				unheld.wantUnheld(t, a, withRefs(was, table.Num, 0), table)
 				if a.why == api.ErrFull && why == api.OK && free < need {
 					why = api.ErrFull
 				}
@@ -275,6 +278,19 @@ func TestAsTheWordsSay(t *testing.T) {
 		if answers[why] < 3 {
 			t.Errorf("error %d was answered %d times alone", why, answers[why])
 		}
+	}
+}
+
+// wantUnheld asks for what a step answers where the table is not held: the error that the step has anyway, or else ErrState; but where the new table is the same cell, that is no more.
+func (a answer) wantUnheld(t *testing.T, held answer, h api.Heap, table api.Kid) {
+	t.Helper()
+	switch {
+	case held.why != api.OK:
+		a.wantRefused(t, "a step that is refused, and the table is not held", h, table, held.why)
+	case held.table != table:
+		a.wantRefused(t, "a step, and the table is not held", h, table, api.ErrState)
+	default:
+		a.want(t, "the same table, and it is not held", api.Heap{Size: h.Size}, table)
 	}
 }
 

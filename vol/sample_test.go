@@ -26,6 +26,17 @@ func copied(h api.Heap) api.Heap {
 	return h
 }
 
+// withRefs is a heap of which one cell has so many Refs.
+func withRefs(h api.Heap, num uint32, refs int) api.Heap {
+	h = copied(h)
+	for i := range h.Cells {
+		if h.Cells[i].Num == num {
+			h.Cells[i].Refs = refs
+		}
+	}
+	return h
+}
+
 func letters(n int) string {
 	return strings.Repeat("k", n)
 }
@@ -77,9 +88,15 @@ func sampleItems() map[string][]api.Item {
 // sample has the branches b and c, e that has nothing, and s, a snapshot of b; b was made of c, c of e, e of what is no more.
 func sample(t *testing.T) (api.Heap, api.Kid) {
 	t.Helper()
+	return heldSample(t, 1)
+}
+
+// heldSample is the sample with its table held so often.
+func heldSample(t *testing.T, held int) (api.Heap, api.Kid) {
+	t.Helper()
 	h, b := built(t, api.Heap{Size: 256}, sampleItems()["b"])
 	h, c := built(t, h, sampleItems()["c"])
-	return tabled(t, h, 1, volOf("b", api.VolBranch, "c", 7, b), volOf("c", api.VolBranch, "e", 6, c),
+	return tabled(t, h, held, volOf("b", api.VolBranch, "c", 7, b), volOf("c", api.VolBranch, "e", 6, c),
 		volOf("e", api.VolBranch, "gone", 5, api.Kid{}), volOf("s", api.VolSnap, "b", 8, b))
 }
 

@@ -38,22 +38,18 @@ func turned(h api.Heap, table api.Kid, do func(*turn) api.Errno) (api.Heap, api.
 	return after, kid, api.OK
 }
 
-// finish puts the table in place of the old one.
+// finish puts the table in place of the old one. The old one is dropped even if it is not held, or is the same cell: what heap.Drop says of that is for the caller to hear.
 func (t *turn) finish(old api.Kid) (api.Heap, api.Kid, api.Errno) {
-	held, _ := heap.Held(t.heap, old.Num)
 	h, kid, why := heap.Put(t.heap, api.Node{Kind: api.NodeTable, Volumes: t.vols})
-	if why != api.OK {
-		return api.Heap{}, api.Kid{}, why
+	if why == api.OK {
+		h, why = heap.Hold(h, kid.Num)
 	}
-	h, why = heap.Hold(h, kid.Num)
-	if why != api.OK {
-		return api.Heap{}, api.Kid{}, why
+	if why == api.OK {
+		h, why = heap.Drop(h, old.Num)
 	}
-	// One that was not held goes when it is swept; were it dropped, it would be the new one that goes, if both are the same.
-	if held > 0 {
-		h, _ = heap.Drop(h, old.Num)
+	if why == api.OK {
+		h, why = heap.Sweep(h)
 	}
-	h, why = heap.Sweep(h)
 	return h, kid, why
 }
 
