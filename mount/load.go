@@ -57,20 +57,22 @@ func cellsOf(leaders []leader) []api.Cell {
 	return cells
 }
 
-// unwritten are a right store's cells to which none of its superblocks leads, by number.
-func unwritten(s api.Store) []api.Block {
+// split has a right store's cells by number: those to which one of its superblocks leads, and the others.
+func split(s api.Store) (led, others []api.Block) {
 	var leaders []leader
 	for slot, valid := range s.Valid {
 		if valid {
 			leaders = append(leaders, lead(s.Slots[slot], cellReader(s.Heap.Cells)))
 		}
 	}
-	var out []api.Block
 	for _, c := range s.Heap.Cells {
-		led := func(l leader) bool { return l.leadsTo(c.Num) }
-		if !slices.ContainsFunc(leaders, led) {
-			out = append(out, api.Block{Num: c.Num, Data: c.Data})
+		b := api.Block{Num: c.Num, Data: c.Data}
+		leads := func(l leader) bool { return l.leadsTo(c.Num) }
+		if slices.ContainsFunc(leaders, leads) {
+			led = append(led, b)
+		} else {
+			others = append(others, b)
 		}
 	}
-	return out
+	return led, others
 }

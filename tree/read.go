@@ -24,12 +24,17 @@ type span struct {
 	levels      int
 }
 
-// readTree reads a whole tree, if it is right: no part of it alone tells that.
+// readTree reads a whole tree of a heap, if both are right.
 func readTree(h api.Heap, root uint32) (*reader, api.Errno) {
 	if why := heap.Check(h); why != api.OK {
 		return nil, why
 	}
-	r := &reader{cells: h.Cells, read: map[uint32]span{}}
+	return readCells(h.Cells, root)
+}
+
+// readCells reads a whole tree of a right heap's cells, if it is right: no part of it alone tells that.
+func readCells(cells []api.Cell, root uint32) (*reader, api.Errno) {
+	r := &reader{cells: cells, read: map[uint32]span{}}
 	if root == nothing {
 		return r, api.OK
 	}
